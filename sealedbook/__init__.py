@@ -1,0 +1,1 @@
+"""A sealed book: entries with their times, sealed page by page. See sealedbook.book.answers."""
