@@ -1,10 +1,12 @@
 """The calls on a sealed book, and their answers."""
 
 from sealedbook.contents import Book, LAST_TIME, LONGEST_BLOB, MOST_PAGES
+from sealedbook.digests import sha1, sha256
 from sealedbook.pages import read_image, seal_page
 from sealedbook.short import WrongPage
 
 LONGEST_IMAGE = 65536
+LONGEST_MESSAGE = 4096
 KEY_SIZE = 16
 
 # The calls' numbers.
@@ -14,8 +16,19 @@ SEAL = 3
 IMAGE = 4
 LOAD = 5
 FIND = 6
+GET = 7
+NAME = 8
+LOOK = 9
+HEAD = 10
+SUMS = 11
+DIGEST = 12
 
-# The refusals.
+# What digest is told to make.
+BY_SHA1 = 0
+BY_SHA256 = 1
+
+# The refusals. An entry or a blob that isn't there is a number not as told, too.
+NO_SUCH_NAME = -1
 NOT_AS_TOLD = -2
 TIME_FALLS = -3
 NOTHING_TO_SEAL = -4
@@ -58,7 +71,7 @@ def put_entry(book, numbers):
 
 
 def seal_entries(book):
-    if book.sealed_entries == len(book.entries):
+    if book.open_entries() == 0:
         return [NOTHING_TO_SEAL]
     if len(book.pages) == MOST_PAGES:
         return [NO_ROOM]
@@ -93,27 +106,81 @@ def find_entries(book, lo, hi):
     return [len(found)] + found
 
 
-def answer_with_book(desk, call, numbers):
+def get_entry(book, number):
+    if not 0 <= number < len(book.entries):
+        return [NOT_AS_TOLD]
+    entry = book.entries[number]
+    blob = book.blobs[entry.blob]
+    return [len(blob), entry.time, entry.blob] + list(blob)
+
+
+def name_blob(book, number):
+    if not 0 <= number < len(book.blobs):
+        return [NOT_AS_TOLD]
+    return [0] + book.blob_names[number]
+
+
+def look_for_blob(book, wanted):
+    # Different blobs may have one name, so the first one has to be told.
+    for number, name in enumerate(book.blob_names):
+        if name == wanted:
+            return [number]
+    return [NO_SUCH_NAME]
+
+
+def tell_head(book):
+    return [0] + book.head
+
+
+def tell_sums(book):
+    return [0, len(book.entries), len(book.blobs), book.blob_octets, len(book.pages), book.open_entries()]
+
+
+def make_digest(how, count, octets):
+    if how not in (BY_SHA1, BY_SHA256) or not 0 <= count <= LONGEST_MESSAGE:
+        return [NOT_AS_TOLD]
+    return [0] + (sha1(octets) if how == BY_SHA1 else sha256(octets))
+
+
+def answer_writing(desk, call, numbers):
+    """The calls that write the book or its image, or read an image."""
     if call == PUT:
         return put_entry(desk.book, numbers)
     if call == SEAL:
         return seal_entries(desk.book)
     if call == IMAGE:
         return write_image(desk.book)
-    if call == LOAD:
-        return load_image(desk, numbers)
-    return find_entries(desk.book, numbers[0], numbers[1])
+    return load_image(desk, numbers)
+
+
+def answer_asking(book, call, numbers):
+    """The calls that only ask what is in the book."""
+    if call == FIND:
+        return find_entries(book, numbers[0], numbers[1])
+    if call == GET:
+        return get_entry(book, numbers[0])
+    if call == NAME:
+        return name_blob(book, numbers[0])
+    if call == LOOK:
+        return look_for_blob(book, numbers)
+    if call == HEAD:
+        return tell_head(book)
+    return tell_sums(book)
 
 
 def answer(desk, call, numbers):
     """The numbers that one call answers; numbers are its own."""
-    if not START <= call <= FIND:
+    if not START <= call <= DIGEST:
         raise UnknownCall()
     if call == START:
         return start_book(desk, numbers)
+    if call == DIGEST:
+        return make_digest(numbers[0], numbers[1], numbers[2:])
     if desk.book is None:
         return [NO_BOOK]
-    return answer_with_book(desk, call, numbers)
+    if call <= LOAD:
+        return answer_writing(desk, call, numbers)
+    return answer_asking(desk.book, call, numbers)
 
 
 def answers(calls):

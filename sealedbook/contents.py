@@ -1,7 +1,7 @@
 """What a book holds: blobs, entries and pages, and the room there is for them."""
 
 from sealedbook.aes import expand_key
-from sealedbook.digests import sha256
+from sealedbook.digests import sha1, sha256
 
 LAST_TIME = 9223372036854775807
 LONGEST_BLOB = 512
@@ -29,6 +29,7 @@ class Book:
         self.head = sha256(salt)
         self.blobs = []
         self.blob_numbers = {}
+        self.blob_names = []
         self.blob_octets = 0
         self.entries = []
         self.pages = []
@@ -42,6 +43,10 @@ class Book:
     def last_time(self):
         return self.time_before(len(self.entries))
 
+    def open_entries(self):
+        """How many entries no page has sealed."""
+        return len(self.entries) - self.sealed_entries
+
     def has_room(self, blob):
         """Whether an entry with this blob can still be added."""
         if len(self.entries) == MOST_ENTRIES:
@@ -54,6 +59,7 @@ class Book:
         if blob not in self.blob_numbers:
             self.blob_numbers[blob] = len(self.blobs)
             self.blobs.append(blob)
+            self.blob_names.append(sha1(list(blob)))
             self.blob_octets += len(blob)
         self.entries.append(Entry(time, self.blob_numbers[blob]))
 

@@ -2,6 +2,11 @@
 
 WORD = 0xffffffff
 
+SHA1_START = (0x67452301, 0xefcdab89, 0x98badcfe, 0x10325476, 0xc3d2e1f0)
+
+# One constant for each twenty of the 80 steps.
+SHA1_CONSTANTS = (0x5a827999, 0x6ed9eba1, 0x8f1bbcdc, 0xca62c1d6)
+
 SHA256_START = (
     0x6a09e667, 0xbb67ae85, 0x3c6ef372, 0xa54ff53a, 0x510e527f, 0x9b05688c, 0x1f83d9ab, 0x5be0cd19,
 )
@@ -35,14 +40,77 @@ def words_of(block):
     return words
 
 
-def padded(octets):
-    """The message in whole blocks of 64: its end is marked, its length in bits stands last."""
+def blocks_of(octets):
+    """The message in blocks of 64: its end is marked, its length in bits stands last."""
     zeros = (55 - len(octets)) % 64
-    return octets + [128] + [0] * zeros + octets_of(8 * len(octets), 8)
+    message = octets + [128] + [0] * zeros + octets_of(8 * len(octets), 8)
+    return [message[start:start + 64] for start in range(0, len(message), 64)]
+
+
+def digest_of(state):
+    """The words of the state as octets, one word behind another."""
+    digest = []
+    for word in state:
+        digest.extend(octets_of(word, 4))
+    return digest
+
+
+def sum_of(before, state):
+    """Two rows of words, added word by word."""
+    return [(old + new) & WORD for old, new in zip(before, state)]
 
 
 def rotated(word, count):
+    """The word turned to the right: to the left by count is to the right by 32 less count."""
     return (word >> count | word << (32 - count)) & WORD
+
+
+def choice(chooser, one, other):
+    return (chooser & one) ^ ((WORD ^ chooser) & other)
+
+
+def majority(one, other, third):
+    return (one & other) ^ (one & third) ^ (other & third)
+
+
+def sha1_schedule(block):
+    """The 80 words that a block gives, one for each step."""
+    words = words_of(block)
+    for place in range(16, 80):
+        mixed = words[place - 3] ^ words[place - 8] ^ words[place - 14] ^ words[place - 16]
+        words.append(rotated(mixed, 31))
+    return words
+
+
+def sha1_mix(part, state):
+    """The second to fourth word mixed as the steps of a part, from 0 to 3, ask for it."""
+    if part == 0:
+        return choice(state[1], state[2], state[3])
+    if part == 2:
+        return majority(state[1], state[2], state[3])
+    return state[1] ^ state[2] ^ state[3]
+
+
+def sha1_step(state, part, word):
+    """The five words after one step."""
+    fresh = rotated(state[0], 27) + sha1_mix(part, state) + state[4] + SHA1_CONSTANTS[part] + word
+    return [fresh & WORD, state[0], rotated(state[1], 2), state[2], state[3]]
+
+
+def sha1_block(before, block):
+    """The five words behind a block, from the five before it."""
+    state = before
+    for step, word in enumerate(sha1_schedule(block)):
+        state = sha1_step(state, step // 20, word)
+    return sum_of(before, state)
+
+
+def sha1(octets):
+    """The 20 octets of the SHA-1 of a list of octets."""
+    state = list(SHA1_START)
+    for block in blocks_of(octets):
+        state = sha1_block(state, block)
+    return digest_of(state)
 
 
 def sha256_schedule(block):
@@ -61,12 +129,10 @@ def sha256_step(state, addend):
     """The eight words after one step; addend is the step's constant and word together."""
     a = state[0]
     e = state[4]
-    choice = (e & state[5]) ^ ((WORD ^ e) & state[6])
-    majority = (a & state[1]) ^ (a & state[2]) ^ (state[1] & state[2])
     lower = rotated(e, 6) ^ rotated(e, 11) ^ rotated(e, 25)
     upper = rotated(a, 2) ^ rotated(a, 13) ^ rotated(a, 22)
-    first = state[7] + lower + choice + addend
-    fresh = (first + upper + majority) & WORD
+    first = state[7] + lower + choice(e, state[5], state[6]) + addend
+    fresh = (first + upper + majority(a, state[1], state[2])) & WORD
     return [fresh, a, state[1], state[2], (state[3] + first) & WORD, e, state[5], state[6]]
 
 
@@ -75,16 +141,12 @@ def sha256_block(before, block):
     state = before
     for constant, word in zip(SHA256_CONSTANTS, sha256_schedule(block)):
         state = sha256_step(state, constant + word)
-    return [(old + new) & WORD for old, new in zip(before, state)]
+    return sum_of(before, state)
 
 
 def sha256(octets):
     """The 32 octets of the SHA-256 of a list of octets."""
-    message = padded(octets)
     state = list(SHA256_START)
-    for start in range(0, len(message), 64):
-        state = sha256_block(state, message[start:start + 64])
-    digest = []
-    for word in state:
-        digest.extend(octets_of(word, 4))
-    return digest
+    for block in blocks_of(octets):
+        state = sha256_block(state, block)
+    return digest_of(state)

@@ -33,6 +33,30 @@ def find(lo, hi):
     return call(6, lo, hi)
 
 
+def get(entry):
+    return call(7, entry)
+
+
+def name(blob):
+    return call(8, blob)
+
+
+def look(octets):
+    return call(9, *octets)
+
+
+def head():
+    return call(10)
+
+
+def sums():
+    return call(11)
+
+
+def digest(how, octets=(), n=None):
+    return call(12, how, len(octets) if n is None else n, *octets)
+
+
 def apart(told):
     """The answers of each call, in a list of lists."""
     rows = []

@@ -12,6 +12,10 @@ def sha256(octets):
     return list(hashlib.sha256(bytes(octets)).digest())
 
 
+def sha1(octets):
+    return list(hashlib.sha1(bytes(octets)).digest())
+
+
 @functools.lru_cache(maxsize=None)
 def times(a, b):
     product = 0
@@ -137,3 +141,8 @@ def texts_of(groups):
 
 def image_of(groups, key=KEY, salt=SALT):
     return joined(pages(texts_of(groups), key, salt))
+
+
+def head_of(groups, key=KEY, salt=SALT):
+    written = pages(texts_of(groups), key, salt)
+    return written[-1][-32:] if written else sha256(salt)

@@ -3,8 +3,8 @@
 import random
 import unittest
 
-from tests.calls import find, image, load, put, run, seal, start
-from tests.reference import LAST, image_of
+from tests.calls import digest, find, get, head, image, load, look, name, put, run, seal, start, sums
+from tests.reference import LAST, head_of, image_of, sha1, sha256
 
 
 class Model:
@@ -17,14 +17,16 @@ class Model:
     def entries(self):
         return [entry for group in self.groups for entry in group] + self.waiting
 
+    def blobs(self):
+        return list(dict.fromkeys(blob for time, blob in self.entries()))
+
     def put(self, time, blob):
         if not 0 <= time <= LAST:
             return [-2]
         if self.entries() and time < self.entries()[-1][0]:
             return [-3]
         self.waiting.append((time, blob))
-        different = list(dict.fromkeys(blob for time, blob in self.entries()))
-        return [len(self.entries()) - 1, different.index(blob)]
+        return [len(self.entries()) - 1, self.blobs().index(blob)]
 
     def seal(self):
         if not self.waiting:
@@ -48,11 +50,52 @@ class Model:
         found = [k for k, entry in enumerate(self.entries()) if lo <= entry[0] <= hi]
         return [len(found)] + found
 
+    def get(self, number):
+        if not 0 <= number < len(self.entries()):
+            return [-2]
+        time, blob = self.entries()[number]
+        return [len(blob), time, self.blobs().index(blob), *blob]
+
+    def name(self, number):
+        return [0] + sha1(self.blobs()[number]) if 0 <= number < len(self.blobs()) else [-2]
+
+    def look(self, octets):
+        names = [sha1(blob) for blob in self.blobs()]
+        return [names.index(octets) if octets in names else -1]
+
+    def head(self):
+        return [0] + head_of(self.groups)
+
+    def sums(self):
+        octets = sum(len(blob) for blob in self.blobs())
+        return [0, len(self.entries()), len(self.blobs()), octets, len(self.groups), len(self.waiting)]
+
 
 class Walk(unittest.TestCase):
+    def ask(self, chance, model):
+        """One of the calls from get on, and what the model answers to it."""
+        kind = chance.choice("gnlhsd")
+        number = chance.randrange(-1, len(model.entries()) + 2)
+        if kind == "g":
+            return get(number), model.get(number)
+        if kind == "n":
+            return name(number), model.name(number)
+        if kind == "l":
+            octets = sha1(chance.choice(model.blobs() + [(99,)]))
+            return look(octets), model.look(octets)
+        if kind == "h":
+            return head(), model.head()
+        if kind == "s":
+            return sums(), model.sums()
+        octets = [chance.randrange(256) for k in range(chance.randrange(130))]
+        how = chance.randrange(-1, 3)
+        return digest(how, octets), {0: [0] + sha1(octets), 1: [0] + sha256(octets)}.get(how, [-2])
+
     def step(self, chance, model, kept):
         """One call, and what the model answers to it."""
-        kind = chance.choice("ppppppssiflbk")
+        kind = chance.choice("ppppppssiflbkaaaaaaaa")
+        if kind == "a":
+            return self.ask(chance, model)
         if kind == "p":
             entries = model.entries()
             time = (entries[-1][0] if entries else 0) + chance.choice((0, 0, 1, 5, 127, 128, 70000, 2 ** 40, -1))
@@ -84,7 +127,7 @@ class Walk(unittest.TestCase):
             kept = [[]]
             calls = [start()]
             wanted = [[0]]
-            for k in range(40):
+            for k in range(59):
                 call, told = self.step(chance, model, kept)
                 calls.append(call)
                 wanted.append(told)
